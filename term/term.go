@@ -79,7 +79,7 @@ func formed(t api.Term) bool {
 	case api.KInt:
 		return hasNumberOnly(t) && -api.MaxInt <= t.N && t.N <= api.MaxInt
 	case api.KAtom:
-		return t.N == 0 && len(t.Args) == 0 && isName(t.Name)
+		return t.N == 0 && len(t.Args) == 0 && IsName(t.Name)
 	case api.KPid:
 		return hasNumberOnly(t) && 1 <= t.N && t.N <= api.MaxPid
 	case api.KTuple:
@@ -96,7 +96,8 @@ func hasNumberOnly(t api.Term) bool {
 	return t.Name == "" && len(t.Args) == 0
 }
 
-func isName(s string) bool {
+// IsName tells whether s may be an atom's Name.
+func IsName(s string) bool {
 	return 1 <= len(s) && len(s) <= api.MaxName && areLetters(s)
 }
 

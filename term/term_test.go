@@ -129,6 +129,14 @@ func TestClosed(t *testing.T) {
 	}
 }
 
+func TestIsName(t *testing.T) {
+	for name, want := range map[string]bool{"a": true, "z": true, "abcdefgz": true, "": false, "abcdefghi": false, "A": false, "a1": false, "a b": false, "a`": false, "a{": false, "ä": false, "a\x00": false} {
+		if term.IsName(name) != want || (term.Check(atom(name)) == api.OK) != want {
+			t.Error(name, want)
+		}
+	}
+}
+
 func TestSize(t *testing.T) {
 	cases := []struct {
 		x    api.Term
