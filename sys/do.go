@@ -8,19 +8,19 @@ import (
 
 // Kinds of what happens.
 const (
-	kindRun     = 1
-	kindDeliver = 2
-	kindInject  = 3
+	KindRun     = 1
+	KindDeliver = 2
+	KindInject  = 3
 )
 
 // Do: P16.
 func (s *System) Do(x api.Happens) api.Errno {
 	switch x.Kind {
-	case kindRun:
+	case KindRun:
 		return s.run(x.A)
-	case kindDeliver:
+	case KindDeliver:
 		return s.arrive(x.A, x.B)
-	case kindInject:
+	case KindInject:
 		return s.inject(x.A, x.Message)
 	}
 	return api.ErrArg

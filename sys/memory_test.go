@@ -149,7 +149,7 @@ func told(t *testing.T, s *sys.System) []any {
 	t.Helper()
 	var out []any
 	for range 2 {
-		out = append(out, s.Events(), s.Alive(), s.Ways())
+		out = append(out, s.Events(), s.EventsFrom(1), s.Alive(), s.Ways())
 		for _, pid := range s.Alive() {
 			name, state, mail, e := s.Proc(pid)
 			if e != api.OK {
@@ -257,11 +257,12 @@ func TestToldIsNotKept(t *testing.T) {
 		was, had := all(s), events(s, 0)
 		for range 2 {
 			name, state, mail, _ := s.Proc(1)
-			list, alive, ways := s.Events(), s.Alive(), s.Ways()
+			list, later, alive, ways := s.Events(), s.EventsFrom(2), s.Alive(), s.Ways()
 			spoil(&name)
 			spoil(&state)
 			spoil(&mail)
 			spoil(&list)
+			spoil(&later)
 			spoil(&alive)
 			spoil(&ways)
 		}

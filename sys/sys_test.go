@@ -452,6 +452,31 @@ func TestEventsAreAllThatWere(t *testing.T) {
 	}
 }
 
+// TestEventsFrom: those behind the first n, whatever n is.
+func TestEventsFrom(t *testing.T) {
+	s := made(t, simple, 9, "")
+	if s.EventCount() != 0 || len(s.EventsFrom(0)) != 0 {
+		t.Error(s.EventCount(), s.EventsFrom(0))
+	}
+	start(t, s, "(a 1) (a (2))")
+	do(t, s, "inject 2 (be (3))", "")
+	do(t, s, "run 2", "take 2 0 (be (3))")
+	all := s.Events()
+	if len(all) != 3 || s.EventCount() != 3 {
+		t.Error(all, s.EventCount())
+	}
+	for n := -2; n < 6; n++ {
+		if got, want := s.EventsFrom(n), all[min(max(n, 0), 3):]; fmt.Sprint(got) != fmt.Sprint(want) {
+			t.Error(n, got, want)
+		}
+	}
+	for _, n := range []int{math.MinInt, math.MaxInt} {
+		if got := s.EventsFrom(n); (len(got) == 3) != (n < 0) || (len(got) == 0) != (n > 0) {
+			t.Error(n, got)
+		}
+	}
+}
+
 // TestAllZero: a System that New didn't make has no program, and answers so.
 func TestAllZero(t *testing.T) {
 	var s sys.System
